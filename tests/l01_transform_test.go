@@ -306,7 +306,7 @@ func imagesOf(u impl.Transform, points []impl.Point) []impl.Point {
 
 func onChip(points []impl.Point) bool {
 	return !slices.ContainsFunc(points, func(p impl.Point) bool {
-		return max(p.X, -p.X, p.Y, -p.Y) > impl.Extent
+		return min(p.X, p.Y) < -impl.Extent || max(p.X, p.Y) > impl.Extent
 	})
 }
 
