@@ -126,6 +126,12 @@ func (t Transform) image(p Point) Point {
 	return Point{turned.X + t.X, turned.Y + t.Y}
 }
 
+// then returns the transform that applies t first and u second. Its translation may be out of range.
+func (t Transform) then(u Transform) Transform {
+	origin := u.image(Point{t.X, t.Y})
+	return Transform{int64(t.orientation().then(u.orientation())), origin.X, origin.Y}
+}
+
 func (t Transform) mapsAll(from []Point, to []Point) bool {
 	for i, p := range from {
 		if t.image(p) != to[i] {
@@ -189,8 +195,7 @@ func ComposeTransforms(t Transform, u Transform) (Transform, bool) {
 	if !IsValidTransform(t) || !IsValidTransform(u) {
 		return Transform{}, false
 	}
-	origin := u.image(Point{t.X, t.Y})
-	composed := Transform{int64(t.orientation().then(u.orientation())), origin.X, origin.Y}
+	composed := t.then(u)
 	if !IsValidTransform(composed) {
 		return Transform{}, false
 	}

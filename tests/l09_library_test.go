@@ -760,9 +760,9 @@ func TestStepsOfOneColumnOrRow(t *testing.T) {
 	checkHierarchy(t, impl.Library{Cells: []impl.Cell{{Name: "a"}, {Name: "b", Instances: []impl.Instance{{Columns: 4, Rows: 4}}}}})
 }
 
-// TestEverySmallHierarchy goes through all libraries of up to four cells in which each cell places each earlier one up
-// to twice, and of five cells in which it places each at most once.
-func TestEverySmallHierarchy(t *testing.T) {
+// smallHierarchies visits all libraries of up to four cells in which each cell places each earlier one up to twice, and of
+// five cells in which it places each at most once.
+func smallHierarchies(visit func(lib impl.Library)) {
 	for cells, most := range []int{0, 2, 2, 2, 2, 1} {
 		var build func(placed [][]int64, earlier int)
 		build = func(placed [][]int64, earlier int) {
@@ -776,13 +776,17 @@ func TestEverySmallHierarchy(t *testing.T) {
 			} else if len(placed) < cells {
 				build(append(slices.Clone(placed), nil), 0)
 			} else {
-				checkHierarchy(t, hierarchy(placed...))
+				visit(hierarchy(placed...))
 			}
 		}
 		if cells > 0 {
 			build([][]int64{nil}, 0)
 		}
 	}
+}
+
+func TestEverySmallHierarchy(t *testing.T) {
+	smallHierarchies(func(lib impl.Library) { checkHierarchy(t, lib) })
 }
 
 // hierarchyCase says what each cell of a library places and what follows for each cell.
